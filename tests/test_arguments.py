@@ -1,0 +1,85 @@
+"""Arguments by position and by the names that the document shows, and where each name is defined."""
+
+import inspect
+import unittest
+
+from trickfares import errors, fares, machines, nets
+from trickfares.fares import System
+from trickfares.nets import Net
+
+TEXT = "slots 2\nride a 4 4\ncap 5"
+MOVES = {(0,): [("x", 2, (1,))], (1,): []}
+WAY = [("x", 2, (1,))]
+
+
+class NameTest(unittest.TestCase):
+    def test_fares(self):
+        system = System.parse(text=TEXT)
+        self.assertEqual(system, System.parse(TEXT))
+        self.assertEqual(system.step(state=(0, 0, 0, 0), letter="a"), system.step((0, 0, 0, 0), "a"))
+        self.assertEqual((system.cost(history="aa"), system.costs(history="aa")), (5, [4, 1]))
+        self.assertEqual(str(system.with_number(word="cap", number=6)), "slots 2\nride a 4 4\ncap 6")
+        self.assertEqual(str(system.with_number("price", number=6, kind="a")), "slots 2\nride a 6 4\ncap 5")
+
+    def test_machines(self):
+        system = System.parse(TEXT)
+        self.assertEqual(machines.states(system=system), machines.states(system))
+        self.assertEqual(machines.smallest(system=system), machines.smallest(system))
+        self.assertIs(machines.are_alike(first=system, second=system), True)
+
+    def test_nets(self):
+        net = Net(start=(0,), moves=MOVES, ends=[(1,)])
+        self.assertEqual((net.start, net.moves, net.ends), ((0,), MOVES, [(1,)]))
+        self.assertEqual(nets.potentials(net=net), {(0,): 2, (1,): 0})
+        self.assertEqual((nets.greatest(net=net), nets.best_way(net=net)), (2, WAY))
+        self.assertIs(nets.is_potentials(net=net, value={(0,): 2, (1,): 0}), True)
+        self.assertIs(nets.is_way(net=net, node=(0,), value=WAY), True)
+        self.assertEqual((nets.end_of(node=(0,), way=WAY), nets.gain_of(way=WAY)), ((1,), 2))
+
+    def test_signatures(self):
+        expected = {
+            fares.System.parse: "(text)", fares.System.step: "(self, state, letter)",
+            fares.System.cost: "(self, history)", fares.System.costs: "(self, history)",
+            fares.System.with_number: "(self, word, number, *, kind=None)",
+            machines.states: "(system)", machines.smallest: "(system)", machines.are_alike: "(first, second)",
+            nets.Net: "(start, moves, ends)", nets.potentials: "(net)", nets.greatest: "(net)", nets.best_way: "(net)",
+            nets.is_potentials: "(net, value)", nets.is_way: "(net, node, value)", nets.end_of: "(node, way)",
+            nets.gain_of: "(way)",
+        }
+        for asked, told in expected.items():
+            self.assertEqual(str(inspect.signature(asked)), told, asked)
+
+
+class PlaceTest(unittest.TestCase):
+    def test_each_name_is_defined_in_its_file(self):
+        names = {
+            errors: "FareError InvalidText TooLarge UnknownLetter NotComparable Unbounded NoFactor BadPlace InvalidRow "
+                    "UnknownName",
+            fares: "System",
+            machines: "states smallest are_alike",
+            nets: "Net potentials greatest best_way is_potentials is_way end_of gain_of",
+        }
+        for module, listed in names.items():
+            for name in listed.split():
+                self.assertEqual(getattr(module, name).__module__, module.__name__, name)
+
+    def test_each_method_is_defined_in_its_class(self):
+        for name in ("__init__", "__str__", "__eq__", "parse", "step", "cost", "costs", "with_number"):
+            self.assertIn(name, vars(System))
+        self.assertIsInstance(vars(System)["parse"], classmethod)
+        self.assertIn("__init__", vars(Net))
+
+
+class KeptTest(unittest.TestCase):
+    def test_a_system_does_not_change_by_its_calls(self):
+        system = System.parse(TEXT)
+        before = dict(vars(system))
+        for asked in (str, machines.states, machines.smallest, lambda each: each.cost("a.a"),
+                      lambda each: each.with_number("cap", 1), lambda each: each.step((0, 0, 4, 0), "a"),
+                      lambda each: each == System.parse(TEXT)):
+            asked(system)
+            self.assertEqual(vars(system), before)
+
+
+if __name__ == "__main__":
+    unittest.main()

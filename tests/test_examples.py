@@ -1,0 +1,40 @@
+"""The examples of the interface, as they stand."""
+
+import unittest
+
+from trickfares.errors import InvalidText
+from trickfares.fares import System
+from trickfares.machines import are_alike, smallest, states
+from trickfares.nets import best_way, greatest, is_potentials, Net, potentials
+
+
+class ExampleTest(unittest.TestCase):
+    def test_fares(self):
+        system = System.parse('slots 4\npeak 1 2\nride a 4 6\nride b 2 2\ntransfer 1 1\nbonus 3')
+        self.assertEqual(
+            [system.costs('a.b..ab'), system.cost('a'), system.cost('ba'), system.step((1, 0, 0, 2), 'a')],
+            [[4, 0, 1, 0, 0, 4, 1], 4, 3, ((1, 2, 0, 0), 0)])
+
+    def test_a_wrong_text(self):
+        with self.assertRaises(InvalidText) as caught:
+            System.parse('slots 1\nride a 4')
+        self.assertEqual(caught.exception.row, 1)
+
+    def test_the_text_of_point_4(self):
+        text = 'slots 4\npeak 1 2\nride a 4 6\nride b 2 2\ntransfer 1 1\nbonus 3'
+        self.assertEqual(str(System.parse(text)), text)
+
+    def test_machines(self):
+        first = System.parse('slots 1\nride a 4 4\nride b 2 2')
+        second = System.parse('slots 2\nride a 4 4\nride b 2 2')
+        self.assertEqual([states(second), smallest(second), are_alike(first, second)],
+                         [[(0, 0, 0, 0), (1, 0, 0, 0)], [((0, 4), (0, 2), (0, 0))], True])
+
+    def test_nets(self):
+        net = Net((0,), {(0,): [('x', 2, (1,))], (1,): [('y', -3, (0,))]}, [(0,), (1,)])
+        self.assertEqual([potentials(net), greatest(net), best_way(net), is_potentials(net, {(0,): 2, (1,): 0})],
+                         [{(0,): 2, (1,): 0}, 2, [('x', 2, (1,))], True])
+
+
+if __name__ == "__main__":
+    unittest.main()

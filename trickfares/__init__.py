@@ -1,0 +1,1 @@
+"""Trickfares: fare systems without tricks."""
