@@ -3,11 +3,12 @@
 import inspect
 import unittest
 
-from trickfares import errors, fares, machines, nets
+from trickfares import compare, errors, factors, fares, machines, nets, past, tricks
 from trickfares.fares import System
 from trickfares.nets import Net
 
 TEXT = "slots 2\nride a 4 4\ncap 5"
+OTHER = "slots 2\nride a 4 4\ncap 4"
 MOVES = {(0,): [("x", 2, (1,))], (1,): []}
 WAY = [("x", 2, (1,))]
 
@@ -36,6 +37,38 @@ class NameTest(unittest.TestCase):
         self.assertIs(nets.is_way(net=net, node=(0,), value=WAY), True)
         self.assertEqual((nets.end_of(node=(0,), way=WAY), nets.gain_of(way=WAY)), ((1,), 2))
 
+    def test_compare(self):
+        first, second = System.parse(TEXT), System.parse(OTHER)
+        self.assertEqual(compare.net_of(first=first, second=second).moves, compare.net_of(first, second).moves)
+        self.assertEqual(compare.net_of(second=second, first=first).moves, compare.net_of(first, second).moves)
+        self.assertIs(compare.never_dearer(first=first, second=second), False)
+        self.assertIs(compare.never_dearer(second=first, first=second), True)
+        self.assertEqual(compare.dearer(first=second, second=first), None)
+        self.assertEqual(compare.most_dearer(first=second, second=first), 0)
+        self.assertEqual(compare.most_dearer(first=first, second=second), None)
+
+    def test_tricks(self):
+        system = System.parse(TEXT)
+        net = tricks.trick_net(system=system, trick="cards")
+        self.assertEqual(net.moves, tricks.trick_net(system, "cards").moves)
+        self.assertEqual(tricks.gain(system=system, trick="cards"), 0)
+        self.assertEqual(tricks.example(trick="cards", system=system), None)
+        self.assertEqual(tricks.histories(system=system, trick="cards", way=[(".", 0, (2, 2, 2))]), (".", [".", "."]))
+        self.assertEqual(tricks.histories(system, "cards", way=[]), ("", ["", ""]))
+
+    def test_factors(self):
+        first, second = System.parse(TEXT), System.parse(OTHER)
+        self.assertEqual(factors.factor(first=first, second=second), (5, 4))
+        self.assertEqual(factors.factor(second=first, first=second), (1, 1))
+        self.assertEqual(factors.factor_constant(first=first, second=second), 0)
+        self.assertEqual(factors.factor_trip(first=first, second=second), factors.factor_trip(first, second))
+
+    def test_past(self):
+        system = System.parse(TEXT)
+        self.assertEqual(past.worth(system=system, first=0, second=1), past.worth(system, 0, 1))
+        self.assertEqual((past.worth(system, second=1, first=0), past.worth(system, first=1, second=0)), (4, 0))
+        self.assertEqual(past.same_time(system=system), past.same_time(system))
+
     def test_signatures(self):
         expected = {
             fares.System.parse: "(text)", fares.System.step: "(self, state, letter)",
@@ -45,6 +78,13 @@ class NameTest(unittest.TestCase):
             nets.Net: "(start, moves, ends)", nets.potentials: "(net)", nets.greatest: "(net)", nets.best_way: "(net)",
             nets.is_potentials: "(net, value)", nets.is_way: "(net, node, value)", nets.end_of: "(node, way)",
             nets.gain_of: "(way)",
+            compare.net_of: "(first, second)", compare.never_dearer: "(first, second)",
+            compare.dearer: "(first, second)", compare.most_dearer: "(first, second)",
+            tricks.trick_net: "(system, trick)", tricks.gain: "(system, trick)", tricks.example: "(system, trick)",
+            tricks.histories: "(system, trick, way)",
+            factors.factor: "(first, second)", factors.factor_constant: "(first, second)",
+            factors.factor_trip: "(first, second)",
+            past.worth: "(system, first, second)", past.same_time: "(system)",
         }
         for asked, told in expected.items():
             self.assertEqual(str(inspect.signature(asked)), told, asked)
@@ -58,6 +98,10 @@ class PlaceTest(unittest.TestCase):
             fares: "System",
             machines: "states smallest are_alike",
             nets: "Net potentials greatest best_way is_potentials is_way end_of gain_of",
+            compare: "net_of never_dearer dearer most_dearer",
+            tricks: "trick_net gain example histories",
+            factors: "factor factor_constant factor_trip",
+            past: "worth same_time",
         }
         for module, listed in names.items():
             for name in listed.split():

@@ -2,10 +2,14 @@
 
 import unittest
 
+from trickfares.compare import dearer, most_dearer, never_dearer
 from trickfares.errors import InvalidText
+from trickfares.factors import factor, factor_constant
 from trickfares.fares import System
 from trickfares.machines import are_alike, smallest, states
 from trickfares.nets import best_way, greatest, is_potentials, Net, potentials
+from trickfares.past import same_time, worth
+from trickfares.tricks import gain, histories
 
 
 class ExampleTest(unittest.TestCase):
@@ -34,6 +38,29 @@ class ExampleTest(unittest.TestCase):
         net = Net((0,), {(0,): [('x', 2, (1,))], (1,): [('y', -3, (0,))]}, [(0,), (1,)])
         self.assertEqual([potentials(net), greatest(net), best_way(net), is_potentials(net, {(0,): 2, (1,): 0})],
                          [{(0,): 2, (1,): 0}, 2, [('x', 2, (1,))], True])
+
+    def test_compare(self):
+        first = System.parse('slots 1\nride a 4 4\nride b 2 2\ntransfer 0 1')
+        second = System.parse('slots 1\nride a 4 4\nride b 2 2')
+        self.assertEqual(
+            [never_dearer(first, second), dearer(first, second), most_dearer(first, second), most_dearer(second, first)],
+            [True, None, 0, None])
+
+    def test_tricks(self):
+        system = System.parse('slots 1\nride a 4 4\nride b 2 2\ntransfer 0 1')
+        self.assertEqual([gain(system, trick) for trick in ('more', 'later', 'earlier', 'cards', 'shared')],
+                         [1, 3, 3, 0, None])
+        self.assertEqual(histories(system, 'more', [(('more', 'b'), -2, (0, 1)), ('a', 3, (1, 1))]), ('a', ['ba']))
+
+    def test_factors(self):
+        first = System.parse('slots 1\nride a 4 4\nride b 2 2\ntransfer 0 1')
+        second = System.parse('slots 1\nride a 4 4\nride b 2 2')
+        self.assertEqual([factor(second, first), factor_constant(second, first), factor(first, second)],
+                         [(4, 1), 0, (1, 1)])
+
+    def test_past(self):
+        system = System.parse('slots 1\nride a 4 4\nride b 2 2\ntransfer 0 1')
+        self.assertEqual([worth(system, 0, 1), worth(system, 1, 0), same_time(system)], [3, 0, [(0, 1), (1, 0)]])
 
 
 if __name__ == "__main__":

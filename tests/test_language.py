@@ -23,6 +23,8 @@ SPECIAL = set("__init__ __eq__ __repr__ __str__ __len__".split())
 BARRED = set("""mro elements open input law version_info with_traceback add_note register attrgetter breakpoint builtins
     compile copyright credits delattr dir eval exec exit gc getattr globals hasattr help id importlib license locals
     methodcaller os quit setattr super type vars sys""".split())
+# What may be imported from Python's own library; these names are only called.
+LIBRARY = {"math": ("gcd",)}
 NOT_ALLOWED = (ast.AsyncFor, ast.AsyncFunctionDef, ast.AsyncWith, ast.Await)
 # Behind these a list stands in place of a generator expression, as a class of the package has __eq__.
 WITH_LISTS = ("any", "all", "min", "max", "sum", "sorted")
@@ -43,6 +45,8 @@ def bound_names(tree):
             yield node.id
         elif isinstance(node, ast.alias):
             yield node.asname or node.name
+        elif isinstance(node, ast.ExceptHandler) and node.name:
+            yield node.name
 
 
 class FileTest(unittest.TestCase):
@@ -66,6 +70,10 @@ class FileTest(unittest.TestCase):
         known = {}
         for name, node in nodes(ast.ImportFrom):
             self.assertIn(node, TREES[name].body, "L2")
+            if node.module in LIBRARY:
+                for alias in node.names:
+                    self.assertTrue(alias.name in LIBRARY[node.module] and alias.asname is None, "L2: " + name)
+                continue
             self.assertTrue(node.level == 0 and node.module.startswith("trickfares."), "L2: " + name)
             source = node.module.split(".")[1] + ".py"
             known.setdefault(name, set()).add(source)
@@ -81,6 +89,17 @@ class FileTest(unittest.TestCase):
                 behind |= more
                 waiting.extend(more)
             self.assertNotIn(name, behind, "L16")
+
+    def test_the_library_is_only_called(self):
+        allowed = [each for told in LIBRARY.values() for each in told]
+        called = [id(node.func) for _, node in nodes(ast.Call) if not node.keywords]
+        for name, node in nodes(ast.Name):
+            if node.id in allowed:
+                self.assertIn(id(node), called, "L2: %s:%d" % (name, node.lineno))
+
+    def test_lambdas_of_one_line(self):
+        lines = [(name, node.lineno) for name, node in nodes(ast.Lambda)]
+        self.assertEqual(len(lines), len(set(lines)), "L13")
 
     def test_module_level(self):
         for name, tree in TREES.items():
