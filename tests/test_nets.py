@@ -1,5 +1,6 @@
 import copy
 import random
+import sys
 import unittest
 
 from trickfares.errors import Unbounded
@@ -135,10 +136,85 @@ class BoundedTest(NetCase):
                  (0, 1, 2): []}
         self.assertBounded((0,), moves, [(0, 1), (0, 1, 2), (1, 1)], {(0,): 1, (0, 1): 3, (1, 1): 0, (0, 1, 2): 0})
 
-    def test_long_lines(self):
-        for order in (range(600), range(599, -1, -1)):
-            moves = {(at,): [("x", 1, (at + 1,))] if at < 599 else [] for at in order}
+
+def row(nodes, order, loop=False):
+    """The moves of a row of so many nodes, put in in this order; perhaps the last one has a move to itself."""
+    moves = {(at,): [("m", 1, (at + 1,))] for at in order}
+    moves[(nodes - 1,)] = [("m", 1, (nodes - 1,))] if loop else []
+    return moves
+
+
+def orders(nodes):
+    mixed = list(range(nodes))
+    random.Random(nodes).shuffle(mixed)
+    return range(nodes), range(nodes - 1, -1, -1), mixed
+
+
+def lines_run(asked, net):
+    """How many lines of the package a call runs through."""
+    counts = [0]
+
+    def told(frame, event, _):
+        counts[0] += event == "line"
+        return told
+
+    before = sys.gettrace()
+    sys.settrace(told)
+    try:
+        asked(net)
+    except Unbounded:
+        pass
+    finally:
+        sys.settrace(before)
+    return counts[0]
+
+
+class RowTest(NetCase):
+    def test_rows(self):
+        for nodes in (310, 600):
+            for order in orders(nodes):
+                net = Net((0,), row(nodes, order), [(nodes - 1,)])
+                self.assertEqual(potentials(net), {(at,): nodes - 1 - at for at in range(nodes)})
+                self.assertEqual(greatest(net), nodes - 1)
+                self.assertEqual(best_way(net), [("m", 1, (at,)) for at in range(1, nodes)])
+
+    def test_rows_with_a_loop_at_the_end(self):
+        for nodes in (310, 600):
+            for order in orders(nodes):
+                net = Net((0,), row(nodes, order, True), [(nodes - 1,)])
+                for asked in (potentials, greatest, best_way):
+                    with self.assertRaises(Unbounded) as caught:
+                        asked(net)
+                    self.assertEqual(caught.exception.way, [("m", 1, (at,)) for at in range(1, nodes)])
+                    self.assertEqual(caught.exception.round_trip, [("m", 1, (nodes - 1,))])
+                    self.assertEqual(caught.exception.rest, [])
+                self.assertUnbounded((0,), row(nodes, order, True), [(nodes - 1,)])
+
+    def test_rows_that_end_at_each_node(self):
+        for order in orders(310):
+            ends = [(at,) for at in range(310)]
+            self.assertBounded((0,), row(310, order), ends, {(at,): 309 - at for at in range(310)})
+            self.assertUnbounded((0,), row(310, order, True), ends)
+
+    def test_rows_with_shorter_ways(self):
+        for order in orders(600):
+            moves = row(600, order)
+            for at in range(598):
+                moves[(at,)].append(("n", 1, (at + 2,)))
             self.assertBounded((0,), moves, [(599,)], {(at,): 599 - at for at in range(600)})
+            moves[(599,)].append(("n", -598, (0,)))
+            self.assertUnbounded((0,), moves, [(599,)])
+            moves[(599,)] = [("n", -599, (0,))]
+            self.assertBounded((0,), moves, [(599,)], {(at,): 599 - at for at in range(600)})
+
+    def test_twice_as_many_nodes_take_about_twice_as_many_steps(self):
+        for asked in (potentials, greatest, best_way):
+            for loop in (False, True):
+                steps = []
+                for nodes in (300, 600):
+                    for order in orders(nodes):
+                        steps.append(lines_run(asked, Net((0,), row(nodes, order, loop), [(nodes - 1,)])))
+                self.assertLess(max(steps), 3 * min(steps))
 
 
 class UnboundedTest(NetCase):
@@ -217,6 +293,37 @@ class RandomTest(NetCase):
                     self.assertUnbounded(start, shuffled, ends)
                 else:
                     self.assertBounded(start, shuffled, ends, expected)
+
+
+class LargerRandomTest(NetCase):
+    def test_nets_of_some_forty_nodes(self):
+        chance = random.Random(34)
+        counts = {True: 0, False: 0}
+        for _ in range(150):
+            gains = chance.choice(((-9, -1), (-6, 0), (-9, 5), (-3, 3)))
+            start, moves, ends = random_net(chance, 40, chance.randint(3, 4), gains)
+            expected = longest(start, moves, ends)
+            counts[expected is None] += 1
+            if expected is None:
+                self.assertUnbounded(start, moves, ends)
+            else:
+                self.assertBounded(start, moves, ends, expected)
+        self.assertGreater(min(counts.values()), 30)
+
+    def test_nets_without_round_trips(self):
+        chance = random.Random(35)
+        for _ in range(60):
+            names = [(at,) for at in range(40)]
+            moves = {names[at]: [("a", chance.randint(-9, 9), names[at + 1])] for at in range(39)}
+            for at in range(39):
+                for _ in range(chance.randint(0, 3)):
+                    moves[names[at]].append(("b", chance.randint(-9, 9), names[chance.randint(at + 1, 39)]))
+            moves[names[39]] = []
+            order = list(names)
+            chance.shuffle(order)
+            shuffled = {node: moves[node] for node in order}
+            ends = sorted({names[39], *chance.sample(names, 3)})
+            self.assertBounded(names[0], shuffled, ends, longest(names[0], shuffled, ends))
 
 
 class NotChangedTest(unittest.TestCase):

@@ -22,16 +22,13 @@ def gain_of(way):
     return sum([move[1] for move in way])
 
 
-def _better_moves(net, worths):
-    """For each node that a move gives more than its worth so far, the move that gives it the most."""
-    better = {}
+def _arrivals(net):
+    """For each node the tuples (node before, move) of the moves that lead to it."""
+    found = {node: [] for node in net.moves}
     for node in net.moves:
-        best = worths.get(node)
         for move in net.moves[node]:
-            if move[2] in worths and (best is None or move[1] + worths[move[2]] > best):
-                best = move[1] + worths[move[2]]
-                better[node] = move
-    return better
+            found[move[2]].append((node, move))
+    return found
 
 
 def _trip_from(node, choices):
@@ -55,42 +52,90 @@ def _round_trip(choices):
     return []
 
 
-def _way_to(net, node, goals):
+def _way_to(net, start, goals):
     """A way from a node to one of the goals, which can be reached from it."""
-    ways = {node: []}
-    queue = [node]
+    arrivals = {}
+    goal_nodes = {node: True for node in goals}
+    found = [start]
     at = 0
-    while node not in goals:
+    while found[at] not in goal_nodes:
+        node = found[at]
         for move in net.moves[node]:
-            if move[2] not in ways:
-                ways[move[2]] = ways[node] + [move]
-                queue.append(move[2])
+            if move[2] not in arrivals and move[2] != start:
+                arrivals[move[2]] = (node, move)
+                found.append(move[2])
         at += 1
-        node = queue[at]
-    return ways[node]
+    node = found[at]
+    way = []
+    while node != start:
+        node, move = arrivals[node]
+        way.append(move)
+    return way[::-1]
+
+
+def _raise_unbounded(net, trip):
+    """Raises Unbounded with a round trip that has a positive gain."""
+    node = end_of(net.start, trip)
+    raise Unbounded(_way_to(net, net.start, [node]), trip, _way_to(net, node, net.ends))
+
+
+def _later_first(net):
+    """All nodes, each one behind the nodes that its moves lead to, except where round trips do not allow it."""
+    order = []
+    done = {}
+    stack = list(net.moves)
+    stack.append(net.start)
+    while stack:
+        node = stack[-1]
+        if node not in done:
+            done[node] = False
+            stack.extend([move[2] for move in net.moves[node] if move[2] not in done])
+        else:
+            stack.pop()
+            if not done[node]:
+                done[node] = True
+                order.append(node)
+    return order
+
+
+def _go_round(order, arrivals, waiting, worths, choices):
+    """Passes on the worths of the waiting nodes, in this order; the number of choices that were made."""
+    made = 0
+    for node in order:
+        if node in waiting:
+            del waiting[node]
+            worth = worths[node]
+            for before, move in arrivals[node]:
+                if before not in worths or move[1] + worth > worths[before]:
+                    worths[before] = move[1] + worth
+                    choices[before] = move
+                    waiting[before] = True
+                    made += 1
+    return made
 
 
 def _solved(net):
     """The least potentials, and for each node that a move gives its potential such a move.
 
     A move is chosen only if it gives its node more than the node had. So a round trip along chosen moves has
-    a positive gain, and without one the chosen moves lead from each node to an end. If there is a round trip
-    with a positive gain, the worths grow until the chosen moves contain one, after as many rounds as there are
-    nodes at the latest.
+    a positive gain, and without one the chosen moves lead from each node to an end. In each round just the nodes
+    that grew pass their worths on, later nodes first, so that without round trips one round is enough. If there is
+    a round trip with a positive gain, the chosen moves contain one for good after as many rounds as there are
+    nodes at the latest; they are looked at only after so many choices, as that takes a step for each of them.
     """
+    order = _later_first(net)
+    arrivals = _arrivals(net)
     worths = {node: 0 for node in net.ends}
+    waiting = {node: True for node in net.ends}
     choices = {}
-    better = _better_moves(net, worths)
-    while better:
-        grown = {node: better[node][1] + worths[better[node][2]] for node in better}
-        for node in better:
-            worths[node] = grown[node]
-            choices[node] = better[node]
-        trip = _round_trip(choices)
-        if trip:
-            node = end_of(net.start, trip)
-            raise Unbounded(_way_to(net, net.start, [node]), trip, _way_to(net, node, net.ends))
-        better = _better_moves(net, worths)
+    made = 0
+    while waiting:
+        made += _go_round(order, arrivals, waiting, worths, choices)
+        if made >= len(worths):
+            trip = _round_trip(choices)
+            if trip:
+                _raise_unbounded(net, trip)
+            made = 0
     return (worths, choices)
 
 
