@@ -316,6 +316,7 @@ class HistoriesTest(unittest.TestCase):
 
     def test_random_ways(self):
         chance = random.Random(65)
+        losses = set()
         for account in random_accounts(66, 40, 150):
             system = System.parse(account.model.text())
             for trick in TRICKS:
@@ -333,6 +334,9 @@ class HistoriesTest(unittest.TestCase):
                     costs = [sum(system.cost(each) for each in group) for group in (without, changed)]
                     self.assertEqual(costs[0] - costs[1], gain_of(way), (str(system), trick, way))
                     self.assertShape(trick, way, without, changed)
+                    if gain_of(way) < 0:
+                        losses.add(trick)
+        self.assertEqual(losses, set(TRICKS))
 
     def assertShape(self, trick, way, without, changed):
         if trick in RIDE_TRICKS:
