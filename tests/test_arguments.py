@@ -3,7 +3,9 @@
 import inspect
 import unittest
 
-from trickfares import compare, errors, factors, fares, machines, nets, past, tricks
+from trickfares import cards, compare, console, errors, factors, fares, machines, nets, past, safe, sharing, tricks
+from trickfares.cards import Card
+from trickfares.console import Console
 from trickfares.fares import System
 from trickfares.nets import Net
 
@@ -69,6 +71,30 @@ class NameTest(unittest.TestCase):
         self.assertEqual((past.worth(system, second=1, first=0), past.worth(system, first=1, second=0)), (4, 0))
         self.assertEqual(past.same_time(system=system), past.same_time(system))
 
+    def test_sharing(self):
+        system = System.parse(TEXT)
+        self.assertEqual(sharing.cheapest(system=system, history="aa..a", cards=1), (9, "111"))
+        self.assertEqual(sharing.cheapest(cards=1, history="aa..a", system=system), (9, "111"))
+
+    def test_safe(self):
+        system = System.parse(TEXT)
+        told = safe.safe_values(system, "shared", "price", kind="a")
+        self.assertEqual(safe.safe_values(system=system, trick="shared", word="price", kind="a"), told)
+        self.assertEqual(safe.safe_values(kind="a", word="price", trick="shared", system=system), told)
+        self.assertEqual(safe.safe_values(system, "more", word="cap", kind=None), safe.safe_values(system, "more", "cap"))
+
+    def test_cards(self):
+        card = Card(system=System.parse(TEXT))
+        self.assertEqual([card.tap(letter="a"), card.tap(letter=".")], [4, 0])
+        self.assertEqual([card.missed(place=0, kind="a"), card.missed(kind="a", place=3)], [1, 0])
+        self.assertEqual((card.wrong(place=0), card.history, card.total), (0, "a.a", 5))
+        self.assertEqual((card.next_costs(), card.fork().history), ({"a": 0}, "a.a"))
+
+    def test_console(self):
+        kept = Console()
+        self.assertEqual(kept.answer(row="system x\n" + TEXT), "ok")
+        self.assertEqual(kept.answer(row="names"), "x")
+
     def test_signatures(self):
         expected = {
             fares.System.parse: "(text)", fares.System.step: "(self, state, letter)",
@@ -85,6 +111,11 @@ class NameTest(unittest.TestCase):
             factors.factor: "(first, second)", factors.factor_constant: "(first, second)",
             factors.factor_trip: "(first, second)",
             past.worth: "(system, first, second)", past.same_time: "(system)",
+            sharing.cheapest: "(system, history, cards)",
+            safe.safe_values: "(system, trick, word, *, kind=None)",
+            cards.Card: "(system)", cards.Card.tap: "(self, letter)", cards.Card.missed: "(self, place, kind)",
+            cards.Card.wrong: "(self, place)", cards.Card.next_costs: "(self)", cards.Card.fork: "(self)",
+            console.Console: "()", console.Console.answer: "(self, row)",
         }
         for asked, told in expected.items():
             self.assertEqual(str(inspect.signature(asked)), told, asked)
@@ -102,6 +133,10 @@ class PlaceTest(unittest.TestCase):
             tricks: "trick_net gain example histories",
             factors: "factor factor_constant factor_trip",
             past: "worth same_time",
+            sharing: "cheapest",
+            safe: "safe_values",
+            cards: "Card",
+            console: "Console",
         }
         for module, listed in names.items():
             for name in listed.split():
@@ -112,6 +147,10 @@ class PlaceTest(unittest.TestCase):
             self.assertIn(name, vars(System))
         self.assertIsInstance(vars(System)["parse"], classmethod)
         self.assertIn("__init__", vars(Net))
+        for name in ("__init__", "tap", "history", "total", "state", "missed", "wrong", "next_costs", "fork"):
+            self.assertIn(name, vars(Card))
+        for name in ("__init__", "answer"):
+            self.assertIn(name, vars(Console))
 
 
 class KeptTest(unittest.TestCase):

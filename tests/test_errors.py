@@ -25,6 +25,11 @@ class ErrorTest(unittest.TestCase):
         for name in FORMS:
             self.assertEqual(getattr(errors, name).__bases__, (errors.FareError,), name)
 
+    def test_none_is_a_subclass_of_another_one(self):
+        for name in FORMS:
+            for other in FORMS:
+                self.assertIs(issubclass(getattr(errors, name), getattr(errors, other)), name == other)
+
     def test_there_are_no_other_errors(self):
         subclasses = sorted(each.__name__ for each in errors.FareError.__subclasses__())
         self.assertEqual(subclasses, sorted(FORMS))

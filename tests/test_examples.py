@@ -2,13 +2,17 @@
 
 import unittest
 
+from trickfares.cards import Card
 from trickfares.compare import dearer, most_dearer, never_dearer
+from trickfares.console import Console
 from trickfares.errors import InvalidText
 from trickfares.factors import factor, factor_constant
 from trickfares.fares import System
 from trickfares.machines import are_alike, smallest, states
 from trickfares.nets import best_way, greatest, is_potentials, Net, potentials
 from trickfares.past import same_time, worth
+from trickfares.safe import safe_values
+from trickfares.sharing import cheapest
 from trickfares.tricks import gain, histories
 
 
@@ -61,6 +65,27 @@ class ExampleTest(unittest.TestCase):
     def test_past(self):
         system = System.parse('slots 1\nride a 4 4\nride b 2 2\ntransfer 0 1')
         self.assertEqual([worth(system, 0, 1), worth(system, 1, 0), same_time(system)], [3, 0, [(0, 1), (1, 0)]])
+
+    def test_sharing(self):
+        system = System.parse('slots 1\nride a 4 4\nride b 2 2\nbonus 3')
+        self.assertEqual([cheapest(system, 'aaba', cards)[0] for cards in (1, 2)], [12, 10])
+
+    def test_safe(self):
+        system = System.parse('slots 1\nride a 4 4\nride b 2 2\ntransfer 0 1')
+        self.assertIs(safe_values(system, 'more', 'transfer') == list(range(2, 21)), True)
+
+    def test_cards(self):
+        card = Card(System.parse('slots 1\nride a 4 4\nride b 2 2\ntransfer 0 1'))
+        self.assertEqual(
+            [card.tap('a'), card.missed(0, 'b'), card.history, card.total, card.next_costs(), card.wrong(1)],
+            [4, -1, 'ba', 3, {'a': 1, 'b': 1}, -1])
+
+    def test_console(self):
+        console = Console()
+        kept = console.answer('system old\nslots 1\nride a 4 4\nride b 2 2\ntransfer 0 1')
+        self.assertEqual(
+            [kept, console.answer('cost old ba'), console.answer('trick old shared'), console.answer('compare old old')],
+            ['ok', '3', 'unbounded', '0'])
 
 
 if __name__ == "__main__":

@@ -4,6 +4,8 @@ from trickfares.fares import POINT
 from trickfares.machines import machine_rows
 from trickfares.pairs import gaining_way, greatest_or_none, grown_net, pair_moves
 
+TRICKS = ("more", "later", "earlier", "cards", "shared")
+
 
 def _trick_move(rows, trick, kind, at, state):
     """The move with "more", "later" or "earlier" and the kind with this place among the letters."""
